@@ -1,0 +1,1 @@
+"""Halfsetup: a system's packages set up by scripts that may fail."""

@@ -1,0 +1,50 @@
+"""Everything that the interface lists is defined in its file, with its arguments, and in its class itself."""
+
+import importlib
+import inspect
+import unittest
+
+FUNCTIONS = {}
+# Each class with its arguments, its properties, its methods, and its operators.
+CLASSES = {
+    "editions.Edition": (
+        "(name, version, *, scripts=('clean', 'enter', 'leave', 'setup'), needs=(), first=(), against=())",
+        ("name", "version", "scripts", "needs", "first", "against"), {}, ("__eq__",)),
+    "stores.Store": (
+        "(editions)", ("names",), {"versions": "(self, name)"},
+        ("__len__", "__getitem__", "__contains__", "__eq__")),
+}
+
+
+def found(path):
+    module, name = path.split(".")
+    return getattr(importlib.import_module(f"halfsetup.{module}"), name)
+
+
+class InterfaceTest(unittest.TestCase):
+    def assert_defined(self, path, signature):
+        thing = found(path)
+        self.assertEqual(f"{thing.__module__}.{thing.__name__}", f"halfsetup.{path}")
+        self.assertEqual(str(inspect.signature(thing)), signature)
+
+    def test_functions(self):
+        for path, signature in FUNCTIONS.items():
+            with self.subTest(path):
+                self.assertTrue(inspect.isfunction(found(path)))
+                self.assert_defined(path, signature)
+
+    def test_classes(self):
+        for path, (signature, properties, methods, operators) in CLASSES.items():
+            with self.subTest(path):
+                self.assert_defined(path, signature)
+                own = vars(found(path))
+                for name in properties:
+                    self.assertIsInstance(own[name], property)
+                for name in methods:
+                    self.assertEqual(str(inspect.signature(own[name])), methods[name])
+                for name in operators:
+                    self.assertTrue(inspect.isfunction(own[name]))
+
+
+if __name__ == "__main__":
+    unittest.main()
