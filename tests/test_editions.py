@@ -105,6 +105,7 @@ class EditionTest(unittest.TestCase):
         self.assert_wrong("scripts", scripts=["clean"])
         self.assert_wrong("needs", needs=[("lib", 1)])
         self.assert_wrong("first", first=(["lib", 1],))
+        self.assert_wrong("first", first=(("lib", 1, 1),))
         self.assert_wrong("against", against=["lib"])
 
     def test_the_first_of_several_wrong_parts_is_told(self):

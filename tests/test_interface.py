@@ -4,7 +4,15 @@ import importlib
 import inspect
 import unittest
 
-FUNCTIONS = {}
+FUNCTIONS = {
+    "systems.is_sound": "(system)",
+    "deeds.refusal": "(system, deed)",
+    "running.run": "(system, deed, fails)",
+    "running.all_runs": "(system, deed)",
+    "courses.ends": "(system, deeds)",
+    "courses.course_count": "(system, deeds)",
+    "courses.fewest_failures": "(system, deeds, goal)",
+}
 # Each class with its arguments, its properties, its methods, and its operators.
 CLASSES = {
     "editions.Edition": (
@@ -13,6 +21,8 @@ CLASSES = {
     "stores.Store": (
         "(editions)", ("names",), {"versions": "(self, name)"},
         ("__len__", "__getitem__", "__contains__", "__eq__")),
+    "systems.System": (
+        "(store, states)", ("store", "states"), {"with_state": "(self, name, state)"}, ("__getitem__", "__eq__")),
 }
 
 
