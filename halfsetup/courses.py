@@ -1,8 +1,8 @@
 """Courses: what can come of a list of deeds, whatever fails."""
 
 from halfsetup.deeds import refusal
-from halfsetup.errors import UnlikeStores
 from halfsetup.running import all_runs
+from halfsetup.stores import check_alike
 from halfsetup.systems import order_key
 
 
@@ -45,8 +45,7 @@ def course_count(system, deeds):
 
 def fewest_failures(system, deeds, goal):
     """Return the fewest failures of a course that ends with the goal, or None."""
-    if goal.store != system.store:
-        raise UnlikeStores("the goal has another store")
+    check_alike(system.store, goal.store)
     reached = reached_by(system, deeds)
     key = order_key(goal)
     return reached[key][2] if key in reached else None

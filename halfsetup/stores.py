@@ -1,6 +1,6 @@
 """Stores: the editions that there are."""
 
-from halfsetup.errors import InvalidStore, UnknownEdition, UnknownName
+from halfsetup.errors import InvalidStore, UnknownEdition, UnknownName, UnlikeStores
 
 MOST_EDITIONS = 12
 MOST_NAMES = 4
@@ -67,3 +67,14 @@ class Store:
 
     def __eq__(self, other):
         return isinstance(other, Store) and self.table == other.table
+
+
+def edition_keys(store):
+    """Return the ascending list of the keys (name, version) of all editions."""
+    return [(name, version) for name in store.names for version in store.versions(name)]
+
+
+def check_alike(store, other):
+    """Raise UnlikeStores if two stores are different."""
+    if store != other:
+        raise UnlikeStores("the stores are different")

@@ -4,62 +4,11 @@ import random
 import unittest
 
 from halfsetup.courses import course_count, ends, fewest_failures
-from halfsetup.deeds import refusal
 from halfsetup.editions import Edition
 from halfsetup.errors import UnlikeStores
-from halfsetup.running import run
 from halfsetup.stores import Store
 from halfsetup.systems import System
-
-SCRIPTS = ("clean", "enter", "leave", "setup")
-
-
-def one_package(version=1):
-    return System(Store((Edition("lib", version),)), {})
-
-
-def courses(system, deeds):
-    """All courses, tuples (calls, system), by trying all ways in which the calls of the deeds can fail."""
-    if not deeds:
-        return [([], system)]
-    if refusal(system, deeds[0]) is not None:
-        return courses(system, deeds[1:])
-    found = []
-    for pattern in range(2 ** 8):
-        fails = tuple(at for at in range(8) if pattern >> at & 1)
-        later, calls = run(system, deeds[0], fails)
-        if len(calls) <= 8 and all(fail < len(calls) for fail in fails):
-            found += [(calls + more, end) for more, end in courses(later, deeds[1:])]
-    return found
-
-
-def random_store(chooser):
-    editions = []
-    for name in ("a", "b"):
-        other = "b" if name == "a" else "a"
-        for version in range(1, chooser.randint(1, 2) + 1):
-            editions.append(Edition(
-                name, version, scripts=tuple(script for script in SCRIPTS if chooser.random() < 0.5),
-                needs=((other, chooser.randint(1, 2)),) if chooser.random() < 0.3 else (),
-                first=((other, 1),) if chooser.random() < 0.2 else (),
-                against=(other,) if chooser.random() < 0.1 else ()))
-    return Store(tuple(editions))
-
-
-def random_system(chooser):
-    store = random_store(chooser)
-    system = System(store, {})
-    for name in store.names:
-        version, done = chooser.choice(store.versions(name)), chooser.choice((0, *store.versions(name)))
-        status = chooser.choice(("absent", "failed", "half", "left", "ready", "unpacked"))
-        if status != "absent":
-            system = system.with_state(name, (status, version, version if status == "ready" else done))
-    return system
-
-
-def random_deed(chooser):
-    kind, name = chooser.choice(("unpack", "unpack", "setup", "setup", "remove", "purge")), chooser.choice("aab")
-    return (kind, name, chooser.randint(1, 2)) if kind == "unpack" else (kind, name)
+from tests.samples import courses, one_package, random_deed, random_system
 
 
 class CoursesTest(unittest.TestCase):
@@ -152,12 +101,13 @@ class CoursesTest(unittest.TestCase):
             deeds = [random_deed(chooser) for _ in range(chooser.randint(1, 5))]
             found = courses(system, deeds)
             with self.subTest(deeds):
-                self.assertEqual(len({tuple(calls) for calls, end in found}), len(found))
+                told = {tuple((call, failed) for before, call, failed in made) for made, end in found}
+                self.assertEqual(len(told), len(found))
                 self.assertEqual(course_count(system, deeds), len(found))
                 fewest = {}
-                for calls, end in found:
+                for made, end in found:
                     key = tuple(end.states.items())
-                    failed = sum(failed for call, failed in calls)
+                    failed = sum(failed for before, call, failed in made)
                     fewest[key] = min(failed, fewest.get(key, failed))
                 listed = ends(system, deeds)
                 self.assertEqual([tuple(end.states.items()) for end in listed], sorted(fewest))

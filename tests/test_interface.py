@@ -12,6 +12,13 @@ FUNCTIONS = {
     "courses.ends": "(system, deeds)",
     "courses.course_count": "(system, deeds)",
     "courses.fewest_failures": "(system, deeds, goal)",
+    "sights.calls_of": "(system, deeds)",
+    "sights.seen_by": "(system, deeds, name)",
+    "reaching.reachable": "(system)",
+    "ways.way": "(system, goal)",
+    "ways.mend": "(system)",
+    "sureness.surely": "(system, goal, failures)",
+    "sureness.best_deed": "(system, goal, failures)",
 }
 # Each class with its arguments, its properties, its methods, and its operators.
 CLASSES = {

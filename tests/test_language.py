@@ -1,4 +1,4 @@
-"""Those rules of the language that can be seen in a file: L1, L2, L3, L5, L8, L10, L12, L14, L16, L17, L20, L25, L27."""
+"""Those rules of the language that can be seen in a file: L1 to L3, L5, L7, L8, L10, L12, L14 to L18, L20, L25, L27."""
 
 import ast
 import builtins
@@ -110,6 +110,34 @@ class LanguageTest(unittest.TestCase):
                     self.assertTrue(not bound.startswith("_") or bound in SPECIAL)
                     self.assertNotIn(bound, BARRED_NAMES)
                     self.assertNotIn(bound, dir(builtins))
+
+    def test_no_local_name_is_that_of_an_import_or_a_class(self):
+        for name, tree in trees().items():
+            top = {alias.name for node in imports_of(tree) for alias in node.names}
+            top |= {node.name for node in tree.body if isinstance(node, ast.ClassDef)}
+            for node in ast.walk(tree):
+                if isinstance(node, ast.arg):
+                    self.assertNotIn(node.arg, top, (name, node.lineno))
+                elif isinstance(node, ast.Name) and isinstance(node.ctx, ast.Store):
+                    self.assertNotIn(node.id, top, (name, node.lineno))
+
+    def test_no_name_is_a_method_and_an_attribute(self):
+        methods, attributes = set(), set()
+        for tree in trees().values():
+            for node in ast.walk(tree):
+                if isinstance(node, ast.ClassDef):
+                    methods |= {part.name for part in node.body if isinstance(part, ast.FunctionDef)}
+                elif isinstance(node, ast.Attribute) and isinstance(node.ctx, ast.Store):
+                    attributes.add(node.attr)
+        self.assertFalse(methods & attributes)
+        self.assertFalse((methods | attributes) & {"keys", "sort"})
+
+    def test_no_generators(self):
+        # The package has classes with __eq__ and operators, beside which lists are asked for.
+        for name, tree in trees().items():
+            for node in ast.walk(tree):
+                with self.subTest((name, getattr(node, "lineno", 0))):
+                    self.assertNotIsInstance(node, (ast.GeneratorExp, ast.Yield, ast.YieldFrom))
 
     def test_words_that_do_not_occur(self):
         for name, text in sources().items():

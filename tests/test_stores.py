@@ -4,8 +4,8 @@ import itertools
 import unittest
 
 from halfsetup.editions import Edition
-from halfsetup.errors import InvalidStore, UnknownEdition, UnknownName
-from halfsetup.stores import Store
+from halfsetup.errors import InvalidStore, UnknownEdition, UnknownName, UnlikeStores
+from halfsetup.stores import Store, check_alike, edition_keys
 
 
 def editions_of(*keys):
@@ -152,6 +152,17 @@ class InvalidStoreTest(unittest.TestCase):
         self.assert_wrong(12, *numbered("a", 9), *four[1:], ("e", 1))
         self.assert_wrong(11, *numbered("a", 8), *four[1:], ("e", 1), ("a", 9), ("a", 10))
         self.assert_wrong(12, *numbered("a", 12), ("a", 13), ("a", 1))
+
+    def test_the_keys_of_all_editions_ascend(self):
+        store = Store(editions_of(("lib", 10), ("lib", 9), ("db", 2)))
+        self.assertEqual(edition_keys(store), [("db", 2), ("lib", 9), ("lib", 10)])
+
+    def test_unlike_stores(self):
+        one = Store(editions_of(("db", 1), ("lib", 1)))
+        self.assertIsNone(check_alike(one, Store(editions_of(("lib", 1), ("db", 1)))))
+        for other in (Store(editions_of(("db", 1))), Store((Edition("db", 1), Edition("lib", 1, scripts=())))):
+            with self.assertRaises(UnlikeStores):
+                check_alike(one, other)
 
 
 if __name__ == "__main__":
