@@ -50,7 +50,8 @@ def next_numbers(plan, moves, goal_key):
     number = 0
     # Each number is found from lesser ones, so it is the least when its turn comes.
     while waiting:
-        present = [key for key in waiting.pop(number, {}) if key not in numbers]
+        due = waiting.pop(number, {})
+        present = [key for key in due if key not in numbers]
         numbers.update({key: number for key in present})
         for key in present:
             for earlier, needed in before.get(key, []):

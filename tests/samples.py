@@ -2,6 +2,7 @@
 
 from halfsetup.deeds import refusal
 from halfsetup.editions import Edition
+from halfsetup.layouts import Layout
 from halfsetup.running import run
 from halfsetup.stores import Store
 from halfsetup.systems import System
@@ -13,14 +14,14 @@ def one_package(version=1, scripts=SCRIPTS):
     return System(Store((Edition("lib", version, scripts=scripts),)), {})
 
 
-def random_store(chooser):
+def random_store(chooser, names="ab", needing=0.3):
     editions = []
-    for name in ("a", "b"):
-        other = "b" if name == "a" else "a"
+    for name in names:
         for version in range(1, chooser.randint(1, 2) + 1):
+            other = chooser.choice(names.replace(name, ""))
             editions.append(Edition(
                 name, version, scripts=tuple(script for script in SCRIPTS if chooser.random() < 0.5),
-                needs=((other, chooser.randint(1, 2)),) if chooser.random() < 0.3 else (),
+                needs=((other, chooser.randint(1, 2)),) if chooser.random() < needing else (),
                 first=((other, 1),) if chooser.random() < 0.2 else (),
                 against=(other,) if chooser.random() < 0.1 else ()))
     return Store(tuple(editions))
@@ -40,8 +41,8 @@ def random_system(chooser):
     return random_states(chooser, random_store(chooser))
 
 
-def random_deed(chooser):
-    kind, name = chooser.choice(("unpack", "unpack", "setup", "setup", "remove", "purge")), chooser.choice("aab")
+def random_deed(chooser, names="aab"):
+    kind, name = chooser.choice(("unpack", "unpack", "setup", "setup", "remove", "purge")), chooser.choice(names)
     return (kind, name, chooser.randint(1, 2)) if kind == "unpack" else (kind, name)
 
 
@@ -50,6 +51,26 @@ def deeds_of(system):
     deeds = [(kind, name) for kind in ("purge", "remove", "setup") for name in system.store.names]
     deeds += [("unpack", name, version) for name in system.store.names for version in system.store.versions(name)]
     return [deed for deed in sorted(deeds) if refusal(system, deed) is None]
+
+
+def keys_of(store):
+    return [(name, version) for name in store.names for version in store.versions(name)]
+
+
+def random_layout(chooser, store, paths="pqrs"):
+    """A layout in which some editions have some of the paths, or take files over, or have empty entries, or none."""
+    files, takes = {}, {}
+    for key in keys_of(store):
+        if chooser.random() < 0.8:
+            some = sorted(chooser.sample(paths, chooser.randint(0, min(3, len(paths)))))
+            files[key] = tuple((path, chooser.randint(1, 99)) for path in some)
+        if chooser.random() < 0.6:
+            takes[key] = tuple(name for name in store.names if name != key[0] and chooser.random() < 0.6)
+    return Layout(store, files, takes)
+
+
+def paths_in(layout, key):
+    return [path for path, content in layout.files.get(key, ())]
 
 
 def states_key(system):

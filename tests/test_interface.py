@@ -19,6 +19,12 @@ FUNCTIONS = {
     "ways.mend": "(system)",
     "sureness.surely": "(system, goal, failures)",
     "sureness.best_deed": "(system, goal, failures)",
+    "layouts.rivals": "(layout)",
+    "layouts.most_together": "(layout)",
+    "trees.lost_paths": "(tree)",
+    "diversions.placed": "(layout, diversions, key)",
+    "diversions.crowded": "(layout, diversions)",
+    "diversions.least_diversions": "(layout, keys)",
 }
 # Each class with its arguments, its properties, its methods, and its operators.
 CLASSES = {
@@ -30,6 +36,8 @@ CLASSES = {
         ("__len__", "__getitem__", "__contains__", "__eq__")),
     "systems.System": (
         "(store, states)", ("store", "states"), {"with_state": "(self, name, state)"}, ("__getitem__", "__eq__")),
+    "layouts.Layout": ("(store, files, takes)", ("store", "files", "takes"), {}, ("__eq__",)),
+    "trees.Tree": ("(layout, system)", ("layout", "system", "owned"), {"after": "(self, deed)"}, ("__eq__",)),
 }
 
 

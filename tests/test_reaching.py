@@ -84,6 +84,17 @@ class ReachableTest(unittest.TestCase):
         store = Store((Edition("a", 1), Edition("b", 1), Edition("c", 1), Edition("d", 1, needs=NEVER)))
         self.assertEqual(len(reachable(System(store, {"d": ("failed", 1, 0)}))), 5000)
 
+    def test_five_thousand_and_one_are_too_many(self):
+        # As long as d is half there in version 2, all others are kept away; it is never so again.
+        store = Store((Edition("a", 1), Edition("b", 1), Edition("c", 1), Edition("d", 1, needs=NEVER),
+                       Edition("d", 2, scripts=(), first=NEVER, against=("a", "b", "c"))))
+        self.assertEqual(len(reachable(System(store, {"d": ("left", 2, 0)}))), 5000)
+        with self.assertRaises(TooMany):
+            reachable(System(store, {"d": ("half", 2, 0)}))
+        smaller = Store(tuple(store[key] for key in (("a", 1), ("d", 1), ("d", 2))))
+        self.assertEqual([len(reachable(System(smaller, {"d": (status, 2, 0)}))) for status in ("left", "half")],
+                         [50, 51])
+
     def test_more_than_five_thousand_are_too_many(self):
         # The packages have 7, 8, 9 and 10 states for themselves.
         store = Store((Edition("a", 1, scripts=()), Edition("b", 1, scripts=("clean",)),
