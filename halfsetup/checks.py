@@ -1,7 +1,9 @@
-"""What words, numbers and ascending values are, for all of the package."""
+"""What words, numbers, numerals and ascending values are, for all of the package."""
 
 LETTERS = "abcdefghijklmnopqrstuvwxyz"
 LONGEST_WORD = 8
+DIGITS = "0123456789"
+LONGEST_NUMERAL = 2
 
 
 def is_word(text):
@@ -17,6 +19,13 @@ def is_number(value, least, most):
     if isinstance(value, bool) or not isinstance(value, int):
         return False
     return least <= value <= most
+
+
+def is_numeral(text):
+    """Tell whether a text is a number of one or two digits without needless zeros."""
+    if not 1 <= len(text) <= LONGEST_NUMERAL or not all([digit in DIGITS for digit in text]):
+        return False
+    return text == "0" or text[0] != "0"
 
 
 def ascends(values):

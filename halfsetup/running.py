@@ -9,17 +9,18 @@ SET_UP = ("failed", "ready")
 
 
 class Caller:
-    """Makes the calls of one run, and knows the numbers of those that fail."""
+    """Makes the calls of one run, and knows the numbers of those that fail, and the scripts that always do."""
 
-    def __init__(self, failing):
+    def __init__(self, failing, faulty):
         self.failing = failing
+        self.faulty = faulty
         self.made = []
 
     def fails(self, edition, script, reason, other):
         """Call a script if the edition has it, and tell whether that fails."""
         if script not in edition.scripts:
             return False
-        failed = len(self.made) in self.failing
+        failed = len(self.made) in self.failing or (edition.name, edition.version, script) in self.faulty
         self.made.append(((edition.name, edition.version, script, reason, other), failed))
         return failed
 
@@ -101,9 +102,12 @@ def purge(caller, old, state):
 ACTIONS = {"setup": set_up, "remove": take_out, "purge": purge}
 
 
-def play(store, state, deed, fails):
-    """Execute a deed that can begin on its package's state; return the state behind it, and the calls."""
-    caller = Caller(fails)
+def play(store, state, deed, fails, faulty=()):
+    """Execute a deed that can begin on its package's state; return the state behind it, and the calls.
+
+    The numbers of the calls that fail may be followed by scripts (name, version, script) that fail whenever called.
+    """
+    caller = Caller(fails, faulty)
     if deed[0] == "unpack":
         return (unpack(caller, store, state, deed), caller.made)
     action = ACTIONS[deed[0]]

@@ -4,6 +4,7 @@ from halfsetup.checks import is_number
 from halfsetup.errors import InvalidSystem, UnknownName
 
 ABSENT = ("absent", 0, 0)
+STATUSES = ("absent", "failed", "half", "left", "ready", "unpacked")
 THERE = ("failed", "half", "ready", "unpacked")
 UNSOUND = ("failed", "half", "unpacked")
 
@@ -15,7 +16,7 @@ def is_state(store, name, state):
     status, version, done = state
     if status == "absent":
         return is_number(version, 0, 0) and is_number(done, 0, 0)
-    if (status not in THERE and status != "left") or (name, version) not in store:
+    if status not in STATUSES or (name, version) not in store:
         return False
     if status == "ready":
         return is_number(done, version, version)

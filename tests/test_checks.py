@@ -2,7 +2,7 @@
 
 import unittest
 
-from halfsetup.checks import ascends, is_number, is_word
+from halfsetup.checks import ascends, is_number, is_numeral, is_word
 
 
 class ChecksTest(unittest.TestCase):
@@ -34,6 +34,14 @@ class ChecksTest(unittest.TestCase):
         for thing in (None, "1", 1.0, (1,)):
             with self.subTest(thing):
                 self.assertFalse(is_number(thing, 0, 9))
+
+    def test_numerals_are_one_or_two_digits_without_needless_zeros(self):
+        for text in ("0", "1", "9", "10", "99", "50"):
+            with self.subTest(text):
+                self.assertTrue(is_numeral(text))
+        for text in ("", "00", "01", "09", "100", "-1", "+1", "1 ", " 1", "1.", "x", "1x", "1\n", "\u0661", "\u00b2"):
+            with self.subTest(text):
+                self.assertFalse(is_numeral(text))
 
     def test_what_ascends_has_nothing_twice(self):
         for values in ((), ("b",), ("a", "b"), ("a", "ab", "b"), (1, 2, 9)):

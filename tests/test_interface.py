@@ -25,6 +25,18 @@ FUNCTIONS = {
     "diversions.placed": "(layout, diversions, key)",
     "diversions.crowded": "(layout, diversions)",
     "diversions.least_diversions": "(layout, keys)",
+    "settings.settled": "(noted, present, new, answer)",
+    "settings.settled_all": "(contents, edits, answer)",
+    "settings.fewest_asked": "(contents, edits)",
+    "orders.pending": "(system)",
+    "orders.hopeless": "(system)",
+    "orders.rings": "(system)",
+    "orders.setup_order": "(system)",
+    "orders.fewest_forced": "(system)",
+    "faults.behind": "(system, deeds, faulty)",
+    "faults.explained": "(system, deeds, later, most)",
+    "faults.tells_apart": "(system, deeds, sets)",
+    "faults.telling_deeds": "(system, sets, most)",
 }
 # Each class with its arguments, its properties, its methods, and its operators.
 CLASSES = {
@@ -38,7 +50,14 @@ CLASSES = {
         "(store, states)", ("store", "states"), {"with_state": "(self, name, state)"}, ("__getitem__", "__eq__")),
     "layouts.Layout": ("(store, files, takes)", ("store", "files", "takes"), {}, ("__eq__",)),
     "trees.Tree": ("(layout, system)", ("layout", "system", "owned"), {"after": "(self, deed)"}, ("__eq__",)),
+    "desks.Desk": (
+        "(system)", ("system", "call_count", "kept", "history"),
+        {"act": "(self, deed, fails)", "mend_all": "(self)", "store_as": "(self, name)", "fetch": "(self, name)",
+         "undo": "(self)", "redo": "(self)", "apply_all": "(self, operations)", "tried": "(self, operations, keep)",
+         "replay": "(cls, system, operations)"}, ()),
+    "desks.Trial": ("(desk)", (), {"hold": "(self)"}, ("__enter__", "__exit__")),
 }
+CLASS_METHODS = ("desks.Desk.replay",)
 
 
 def found(path):
@@ -66,7 +85,9 @@ class InterfaceTest(unittest.TestCase):
                 for name in properties:
                     self.assertIsInstance(own[name], property)
                 for name in methods:
-                    self.assertEqual(str(inspect.signature(own[name])), methods[name])
+                    self.assertEqual(isinstance(own[name], classmethod), f"{path}.{name}" in CLASS_METHODS)
+                    method = own[name].__func__ if isinstance(own[name], classmethod) else own[name]
+                    self.assertEqual(str(inspect.signature(method)), methods[name])
                 for name in operators:
                     self.assertTrue(inspect.isfunction(own[name]))
 
