@@ -95,3 +95,23 @@ def courses(system, deeds):
             made = [(system, call, failed) for call, failed in calls]
             found += [(made + more, end) for more, end in courses(later, deeds[1:])]
     return found
+
+
+def random_needs(chooser, names, most):
+    """Up to so many needs of names, some of which may be of no store."""
+    some = sorted(chooser.sample(names, chooser.randint(0, most)))
+    return tuple((name, chooser.choice((1, 2, 9, 10, 99))) for name in some)
+
+
+def random_rich_system(chooser):
+    """A system with up to four packages and 12 editions, all parts of which are as they like, but for three needs each."""
+    names = chooser.sample(("a", "ab", "b", "lib", "zzzzzzzz", "abcdefgh"), chooser.randint(1, 4))
+    keys = [(name, version) for name in names for version in chooser.sample(range(1, 100), chooser.randint(1, 3))]
+    editions = []
+    for name, version in keys:
+        others = [other for other in ("a", "ab", "b", "lib", "x", "zzzzzzzz") if other != name]
+        editions.append(Edition(
+            name, version, scripts=tuple(script for script in SCRIPTS if chooser.random() < 0.7),
+            needs=random_needs(chooser, others, 3), first=random_needs(chooser, others, 2),
+            against=tuple(sorted(chooser.sample(others, chooser.randint(0, 3))))))
+    return random_states(chooser, Store(tuple(editions)))

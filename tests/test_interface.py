@@ -37,6 +37,11 @@ FUNCTIONS = {
     "faults.explained": "(system, deeds, later, most)",
     "faults.tells_apart": "(system, deeds, sets)",
     "faults.telling_deeds": "(system, sets, most)",
+    "notation.format_system": "(system)",
+    "notation.parse_system": "(text)",
+    "codec.encode_system": "(system)",
+    "codec.decode_system": "(values)",
+    "scripts.run_script": "(system, text)",
 }
 # Each class with its arguments, its properties, its methods, and its operators.
 CLASSES = {
@@ -56,6 +61,10 @@ CLASSES = {
          "undo": "(self)", "redo": "(self)", "apply_all": "(self, operations)", "tried": "(self, operations, keep)",
          "replay": "(cls, system, operations)"}, ()),
     "desks.Trial": ("(desk)", (), {"hold": "(self)"}, ("__enter__", "__exit__")),
+    "watches.Watch": (
+        "(system, deed)", ("calls", "finished"),
+        {"see": "(self, failed)", "next_call": "(self)", "could_end": "(self)", "most_left": "(self)",
+         "fewest_left": "(self, state)"}, ()),
 }
 CLASS_METHODS = ("desks.Desk.replay",)
 
