@@ -66,7 +66,7 @@ def explained(system, deeds, later, most):
                 found.append(faulty)
             else:
                 larger.update({tuple(sorted([*faulty, script])): True for script in called if script not in faulty})
-        level = [faulty for faulty in sorted(larger) if not any([is_part(least, faulty) for least in found])]
+        level = [some for some in sorted(larger) if not any([is_part(least, some) for least in found])]
     return found
 
 

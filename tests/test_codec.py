@@ -151,6 +151,9 @@ class DecodeErrorTest(unittest.TestCase):
             # The offset is that of the version, even if the name is too little.
             self.assertEqual(wrong_offset([*values, *NOTHING]), len(values) - 1)
             self.assertEqual(wrong_offset(values), len(values) - 1)
+        # Each edition is compared with the one right before it.
+        values = [72, 3, 1, 1, 1, *NOTHING, 1, 3, 1, *NOTHING, 1, 2, 1]
+        self.assertEqual(wrong_offset([*values, *NOTHING]), len(values) - 1)
         # A version that is none is wrong at the same place, and a letter that is none before it.
         self.assertEqual(wrong_offset([72, 2, 1, 2, 1, *NOTHING, 1, 1, 0]), 11)
         self.assertEqual(wrong_offset([72, 2, 1, 2, 1, *NOTHING, 1, 27, 1]), 10)
